@@ -1,0 +1,1 @@
+"""A house of programs that keep their word."""
