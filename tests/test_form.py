@@ -120,6 +120,27 @@ class Trees(unittest.TestCase):
                 if isinstance(node, ast.Call) and isinstance(node.func, ast.Attribute):
                     self.assertIn(node.func.attr, METHODS, (path, node.lineno))
 
+    def test_values_of_objects_are_not_called_like_those_of_python_s_own(self):
+        own = {name for one in (str, int, list, tuple, dict, set, bytes, Exception) for name in dir(one)}
+        for path, tree in trees():
+            for node in ast.walk(tree):
+                if isinstance(node, ast.Attribute) and isinstance(node.ctx, ast.Store):
+                    self.assertNotIn(node.attr, own, (path, node.lineno))
+
+    def test_classes_have_no_methods_but_their_beginning(self):
+        for path, tree in trees():
+            for node in ast.walk(tree):
+                if isinstance(node, ast.ClassDef):
+                    self.assertIn(node, tree.body)
+                    rows = [row for row in node.body if not isinstance(row, ast.Expr)]
+                    self.assertEqual([row.name for row in rows], ["__init__"], (path, node.name))
+
+    def test_is_stands_beside_none_alone(self):
+        for path, tree in trees():
+            for node in ast.walk(tree):
+                if isinstance(node, ast.Compare) and isinstance(node.ops[0], (ast.Is, ast.IsNot)):
+                    self.assertIsNone(node.comparators[0].value, (path, node.lineno))
+
     def test_the_program_prints_reads_and_imports_nothing(self):
         for path, tree in trees():
             for node in ast.walk(tree):

@@ -1,4 +1,4 @@
-"""What holds (b, c, f) over many lines, and every answer held against a second telling of the words.
+"""What holds (a to f) over many lines, and every answer held against a second telling of the words.
 
 The lines are drawn by a seeded source, so they are the same each time.
 """
@@ -143,6 +143,13 @@ def members(deps):
     return frozenset(k for k in range(32) if deps >> k & 1)
 
 
+class Cell:
+    """A cell as at the beginning."""
+
+    def __init__(self):
+        self.value, self.lo, self.hi, self.eyes, self.origin = 0, 0, 0, frozenset(range(16)), [0]
+
+
 class Model:
     """The words of the document, told a second time."""
 
@@ -150,11 +157,12 @@ class Model:
         self.begin()
 
     def begin(self):
-        self.owner, self.versions, self.entries = {}, {}, 0
+        self.owner, self.told, self.entries = {}, {}, []
+        self.cells = [Cell() for k in range(32)]
         return [0]
 
     def words(self, **changed):
-        words = {f: versions[-1][0] for f, versions in self.versions.items()}
+        words = {f: versions[-1][0] for f, versions in self.told.items()}
         words.update(changed.get("also", {}))
         return words
 
@@ -166,7 +174,7 @@ class Model:
         words = self.words(also={f: word})
         if not keeps(word, row, words):
             return -33
-        if not all(keeps(*versions[-1], words) for g, versions in self.versions.items() if g != f):
+        if not all(keeps(*versions[-1], words) for g, versions in self.told.items() if g != f):
             return -17
         return 0
 
@@ -179,39 +187,39 @@ class Model:
             return [-22]
         if self.owner.get(f, who) != who:
             return [-1]
-        if len(self.versions.get(f, [])) == 8 or self.entries == 128:
+        if len(self.told.get(f, [])) == 8 or len(self.entries) == 128:
             return [-28]
         word = (list(zip(params[::2], params[1::2])), lo, hi, members(deps), cost)
-        return [self.against(f, word, row) or len(self.versions.get(f, []))]
+        return [self.against(f, word, row) or len(self.told.get(f, []))]
 
     def define(self, who, f, params, result, deps, cost, row):
         answer = self.would(who, f, params, result, deps, cost, row)
         if answer[0] >= 0:
             word = (list(zip(params[::2], params[1::2])), result[0], result[1], members(deps), cost)
             self.owner[f] = who
-            self.versions.setdefault(f, []).append((word, row))
-            self.entries += 1
+            self.told.setdefault(f, []).append((word, row))
+            self.entries.append([1, who, f])
         return answer
 
     def hand(self, who, f):
         return -2 if f not in self.owner else -1 if self.owner[f] != who else 0
 
     def drop(self, who, f):
-        refusal = self.hand(who, f) or (-28 if self.entries == 128 else 0) or (-17 if self.callers(f)[0] > 0 else 0)
+        refusal = self.hand(who, f) or (-28 if len(self.entries) == 128 else 0) or (-17 if self.callers(f)[0] > 0 else 0)
         if not refusal:
             self.owner.pop(f)
-            self.versions.pop(f)
-            self.entries += 1
+            self.told.pop(f)
+            self.entries.append([2, who, f])
         return [refusal]
 
     def back(self, who, f):
-        refusal = self.hand(who, f) or (-6 if len(self.versions[f]) == 1 else 0)
-        refusal = refusal or (-28 if self.entries == 128 else 0) or self.against(f, *self.versions[f][-2])
+        refusal = self.hand(who, f) or (-6 if len(self.told[f]) == 1 else 0)
+        refusal = refusal or (-28 if len(self.entries) == 128 else 0) or self.against(f, *self.told[f][-2])
         if refusal:
             return [refusal]
-        self.versions[f].pop()
-        self.entries += 1
-        return [len(self.versions[f])]
+        self.told[f].pop()
+        self.entries.append([3, who, f])
+        return [len(self.told[f])]
 
     def give(self, who, f, to):
         refusal = self.hand(who, f) or (-22 if to > 15 else 0)
@@ -228,17 +236,17 @@ class Model:
     def word(self, f):
         if f not in self.owner:
             return [-2]
-        bounds, lo, hi, deps, cost = self.versions[f][-1][0]
+        bounds, lo, hi, deps, cost = self.told[f][-1][0]
         return [len(bounds)] + [number for bound in bounds for number in bound] + [lo, hi, bits(deps), cost]
 
     def body(self, f):
-        return [-2] if f not in self.owner else [len(self.versions[f][-1][1])] + self.versions[f][-1][1]
+        return [-2] if f not in self.owner else [len(self.told[f][-1][1])] + self.told[f][-1][1]
 
     def called(self, f):
         def walk(tree):
             inner = [walk(part) for part in tree[1:] if isinstance(part, tuple)]
             return frozenset([tree[1]] if tree[0] == 11 else []).union(*inner)
-        word, row = self.versions[f][-1]
+        word, row = self.told[f][-1]
         return walk(whole(row, len(word[0])))
 
     def calls(self, f):
@@ -253,11 +261,91 @@ class Model:
         return [len(found)] + found
 
 
+    def versions(self, f):
+        return [-2] if f not in self.owner else [len(self.told[f]), self.owner[f]]
+
+    def outcome(self, f, args):
+        word, row = self.told[f][-1]
+        return run(whole(row, len(args)), list(args), {g: self.told[g][-1] for g in self.told})
+
+    def evaluate(self, f, *args):
+        if f not in self.owner:
+            return [-2]
+        bounds = self.words()[f][0]
+        if len(args) != len(bounds) or any(not lo <= v <= hi for v, (lo, hi) in zip(args, bounds)):
+            return [-22]
+        return [0, *self.outcome(f, args)]
+
+    def put(self, who, k, bound, v, mask):
+        lo, hi = bound
+        if who > 15 or k > 31 or lo > hi or not lo <= v <= hi or mask > 65535:
+            return [-22]
+        cell = self.cells[k] = Cell()
+        cell.value, cell.lo, cell.hi, cell.eyes, cell.origin = v, lo, hi, members(mask), [1, who]
+        return [0]
+
+    def run(self, who, f, to, *cells):
+        if who > 15 or to > 31 or max(cells, default=0) > 31:
+            return [-22]
+        if f not in self.owner:
+            return [-2]
+        bounds, lo, hi, deps, cost = self.words()[f]
+        over = [self.cells[k] for k in cells]
+        if len(cells) != len(bounds):
+            return [-22]
+        if any(who not in cell.eyes for cell in over):
+            return [-13]
+        if any(cell.lo < least or most < cell.hi for cell, (least, most) in zip(over, bounds)):
+            return [-71]
+        cell = Cell()
+        cell.value, cell.lo, cell.hi = self.outcome(f, [one.value for one in over])[0], lo, hi
+        cell.eyes = frozenset(p for p in range(16) if all(p in over[k].eyes for k in deps))
+        cell.origin = [2, who, f, len(self.told[f]) - 1, *cells]
+        self.cells[to] = cell
+        return [0]
+
+    def mine(self, who, k):
+        return 0 if self.cells[k].origin[1:2] == [who] else -1
+
+    def narrow(self, who, k, mask):
+        if k > 31 or mask > 65535:
+            return [-22]
+        if self.mine(who, k) == 0:
+            self.cells[k].eyes &= members(mask)
+        return [self.mine(who, k)]
+
+    def clear(self, who, k):
+        if k > 31:
+            return [-22]
+        refusal = self.mine(who, k)
+        if refusal == 0:
+            self.cells[k] = Cell()
+        return [refusal]
+
+    def read(self, who, k):
+        if who > 15 or k > 31:
+            return [-22]
+        return [0, self.cells[k].value] if who in self.cells[k].eyes else [-13]
+
+    def seen(self, k):
+        return [-22] if k > 31 else [0, bits(self.cells[k].eyes), self.cells[k].lo, self.cells[k].hi]
+
+    def how(self, k):
+        return [-22] if k > 31 else self.cells[k].origin
+
+    def log(self, k):
+        return self.entries[k] if k < len(self.entries) else [-2]
+
+    def many(self):
+        return [len(self.owner), len(self.entries)]
+
+
 class Source:
     """Draws calls that are mostly near the edge of being taken."""
 
-    def __init__(self, seed):
+    def __init__(self, seed, over_cells=0.0):
         self.draw = random.Random(seed)
+        self.over_cells = over_cells
         self.model = Model()
 
     def number(self):
@@ -311,13 +399,13 @@ class Source:
         params = self.params()
         row = self.expression(draw.choice([1, 3, 8, 20]), len(params) // 2)
         f = draw.choice([0, 1, 2, 3, 4, 5, 15] * 3 + [16])
-        old = self.model.versions.get(f)
+        old = self.model.told.get(f)
         if old and draw.random() < 0.5:
             params = [number for bound in old[-1][0][0] for number in bound]
             row = draw.choice([old[-1][1], self.expression(8, len(params) // 2)])
         if draw.random() < 0.04:
             row = draw.choice([row[:-1], row + [0, 0], row + [draw.randrange(14)]])
-        got = known(list(zip(params[::2], params[1::2])), row, self.model.words()) if len(params) <= 8 else None
+        got = known(list(zip(params[::2], params[1::2])), row, self.model.words()) if self.model.well(params, row) else None
         lo, hi, deps, cost = got or (0, MOST, frozenset(), 50)
         lo = max(0, lo - draw.choice([0, 0, 0, 1, 5]) + (draw.random() < 0.05))
         hi = min(MOST, hi + draw.choice([0, 0, 0, 1, 100, MOST]) - (draw.random() < 0.05 and hi > 0))
@@ -333,8 +421,82 @@ class Source:
             return self.draw.choice([0, 1, 2, 15, 16])
         return owner
 
+    def person(self):
+        return self.draw.choice([0, 0, 1, 1, 2, 3, 15] * 5 + [16])
+
+    def cell(self):
+        return self.draw.choice([0, 1, 2, 3, 4, 5, 31] * 7 + [32])
+
+    def mask(self):
+        return self.draw.choice([65535, 65535, 65534, 3, 6, 14, 0x8003, 0, 0xfff0, 1, 65536])
+
+    def within(self, bounds):
+        """Values for these bounds, mostly within."""
+        row = [self.draw.choice([lo, hi, self.draw.randint(lo, hi)]) for lo, hi in bounds]
+        if row and self.draw.random() < 0.1:
+            row[-1] = self.draw.choice([bounds[-1][1] + 1, max(0, bounds[-1][0] - 1)]) % LIMIT
+        return row + [0] if self.draw.random() < 0.05 else row
+
+    def program(self):
+        there = sorted(self.model.owner)
+        return self.draw.choice(there) if there and self.draw.random() < 0.93 else self.draw.randrange(18)
+
+    def bounds(self, f):
+        return self.model.words()[f][0] if f in self.model.owner else []
+
+    def putting(self):
+        bounds = self.bounds(self.program())
+        lo, hi = self.draw.choice(bounds) if bounds else (0, 9)
+        narrower = self.draw.randint(lo, hi)
+        lo, hi = self.draw.choice([(lo, hi), (lo, narrower), (narrower, hi), (narrower, narrower), (lo, min(MOST, hi + 1))])
+        v = self.draw.choice([lo, hi, self.draw.randint(lo, hi)])
+        if self.draw.random() < 0.03:
+            lo, hi = hi, lo
+        return self.person(), self.cell(), (lo, hi), v if self.draw.random() < 0.95 else self.number(), self.mask()
+
+    def running(self):
+        """Mostly over cells that fit."""
+        f, who, cells = self.program(), self.person(), []
+        for lo, hi in self.bounds(f):
+            fit = [k for k, cell in enumerate(self.model.cells) if lo <= cell.lo and cell.hi <= hi and k < 6]
+            eyed = [k for k in fit if who in self.model.cells[k].eyes]
+            cells.append(self.draw.choice(eyed or fit or [self.cell()] if self.draw.random() < 0.9 else [self.cell()]))
+        if self.draw.random() < 0.03:
+            cells.append(self.cell())
+        return (who, f, self.cell(), *cells)
+
+    def handling(self, name):
+        """What a narrow or a clear is handed, mostly by whose it is."""
+        k = self.cell()
+        mine = self.model.cells[k].origin[1:2] if k < 32 else []
+        who = mine[0] if mine and self.draw.random() < 0.8 else self.person()
+        return (who, k, self.mask()) if name == "narrow" else (who, k)
+
+    def one_over_cells(self):
+        """The name of a call over cells, or that only tells, and what it's handed."""
+        name = self.draw.choice(["put"] * 5 + ["run"] * 10 + ["narrow", "narrow", "clear", "read", "read", "read", "seen", "how",
+                                                             "log", "many", "versions", "evaluate", "evaluate"])
+        if name == "put":
+            return name, self.putting()
+        if name == "run":
+            return name, self.running()
+        if name in ("narrow", "clear"):
+            return name, self.handling(name)
+        if name == "read":
+            return name, (self.person(), self.cell())
+        if name in ("seen", "how"):
+            return name, (self.cell(),)
+        if name == "log":
+            return name, (self.draw.randrange(len(self.model.entries) + 2),)
+        if name == "many":
+            return name, ()
+        f = self.program()
+        return name, (f,) if name == "versions" else (f, *self.within(self.bounds(f)))
+
     def one(self):
         """The name of a call and what it's handed."""
+        if self.draw.random() < self.over_cells:
+            return self.one_over_cells()
         name = self.draw.choice(["define"] * 8 + ["would"] * 2 + ["drop", "back", "back", "back", "give", "infer", "infer",
                                                              "word", "body", "calls", "callers"])
         if name in ("define", "would"):
@@ -376,22 +538,33 @@ def programs_there(told):
     return there
 
 
+REFUSALS = {
+    "define": (-22, -1, -28, -33, -17), "would": (-22, -1, -28, -33, -17), "drop": (-2, -1, -28, -17),
+    "back": (-2, -1, -6, -28, -33, -17), "give": (-2, -1, -22), "infer": (-22, -33), "word": (-2,), "body": (-2,),
+    "calls": (-2,), "callers": (-2,), "versions": (-2,), "evaluate": (-2, -22), "put": (-22,), "run": (-22, -2, -13, -71),
+    "narrow": (-22, -1), "clear": (-22, -1), "read": (-22, -13), "seen": (-22,), "how": (-22,), "log": (-2,), "many": (),
+}
+
+
 class AgainstTheModel(unittest.TestCase):
+    def hold(self, source, many, entries, met):
+        asked, wanted = source.line(many, entries)
+        given = helper.ask(*asked)
+        for k, (name, answer) in enumerate(wanted):
+            self.assertEqual(given[k], answer, (k, name, asked[k]))
+            code = answer[0] if answer[0] < 0 else "taken"
+            met[name, code] = met.get((name, code), 0) + 1
+
     def test_lines(self):
-        seen = {}
+        met = {}
         for seed in range(60):
-            asked, wanted = Source(seed).line(240, 100 if seed % 3 == 0 else 0)
-            given = helper.ask(*asked)
-            for k, (name, answer) in enumerate(wanted):
-                self.assertEqual(given[k], answer, (seed, k, name, asked[k]))
-                code = answer[0] if answer[0] < 0 else "taken"
-                seen[name, code] = seen.get((name, code), 0) + 1
-        refusals = {"define": (-22, -1, -28, -33, -17), "would": (-22, -1, -28, -33, -17), "drop": (-2, -1, -28, -17),
-                    "back": (-2, -1, -6, -28, -33, -17), "give": (-2, -1, -22), "infer": (-22, -33), "word": (-2,),
-                    "body": (-2,), "calls": (-2,), "callers": (-2,)}
-        for name in refusals:
-            for code in refusals[name] + ("taken",):
-                self.assertGreater(seen.get((name, code), 0), 0, (name, code))
+            self.hold(Source(seed), 240, 100 if seed % 3 == 0 else 0, met)
+        for seed in range(1000, 1080):
+            self.hold(Source(seed, 0.7), 290, 0, met)
+        for name in REFUSALS:
+            for code in REFUSALS[name] + ("taken",):
+                self.assertGreater(met.get((name, code), 0), 20 if name == "run" else 0, (name, code))
+        self.assertEqual({code for name, code in met} - {"taken"}, {code for name in REFUSALS for code in REFUSALS[name]})
 
 
 class Holds(unittest.TestCase):
@@ -456,6 +629,89 @@ class Holds(unittest.TestCase):
                     self.assertEqual(run(whole(row, len(held)), other, there)[0], value)
                     runs += 1
         self.assertGreater(runs, 500)
+
+
+class RunsHold(unittest.TestCase):
+    """a: each that's there, run by the house itself."""
+
+    def test_every_program_keeps_its_word(self):
+        runs, freed = 0, 0
+        for seed in range(300, 360):
+            source = Source(seed)
+            asked, wanted = source.line(140)
+            there = {f: source.model.told[f][-1] for f in sorted(source.model.told)}
+            pairs = []
+            for f in there:
+                bounds, lo, hi, deps, cost = there[f][0]
+                for k in range(8):
+                    held = [source.draw.choice([a, b, source.draw.randint(a, b)]) for a, b in bounds]
+                    pairs.append((f, held, [held[k] if k in deps else source.draw.randint(a, b)
+                                            for k, (a, b) in enumerate(bounds)]))
+            pairs = pairs[:70]
+            given = helper.ask(*asked, *[helper.evaluate(f, *args) for f, held, other in pairs for args in (held, other)])
+            given = given[len(asked):]
+            for (f, held, other), one, two in zip(pairs, given[::2], given[1::2]):
+                bounds, lo, hi, deps, cost = there[f][0]
+                for answer in (one, two):
+                    self.assertEqual(answer[0], 0)
+                    self.assertTrue(lo <= answer[1] <= hi and 1 <= answer[2] <= cost, (f, answer))
+                self.assertEqual(one[1], two[1])
+                runs, freed = runs + 1, freed + (held != other)
+        self.assertGreater(runs, 500)
+        self.assertGreater(freed, 100)
+
+
+class CellsHold(unittest.TestCase):
+    def test_cells_lie_within_their_bounds(self):
+        ran = 0
+        for seed in range(400, 430):
+            source = Source(seed, 0.7)
+            asked, wanted = source.line(200)
+            cells = (0, 1, 2, 3, 4, 5, 31)
+            told = helper.ask(*asked, *[one for k in cells for one in (helper.seen(k), helper.how(k))])[len(asked):]
+            for at, k in enumerate(cells):
+                zero, mask, lo, hi = told[2 * at]
+                ran += told[2 * at + 1][0] == 2
+                for who in sorted(members(mask)):
+                    value = helper.last(*asked, helper.read(who, k))
+                    self.assertTrue(value[0] == 0 and lo <= value[1] <= hi)
+        self.assertGreater(ran, 50)
+
+    def other_values(self, asked, blind, draw):
+        """The line with other values put where this one may not see them."""
+        changed = []
+        for row in asked:
+            if row[0] == 13 and not row[6] >> blind & 1 and row[3] <= row[5] <= row[4]:
+                row = row[:5] + [draw.choice([row[3], row[4], draw.randint(row[3], row[4])])] + row[6:]
+            changed.append(row)
+        return changed
+
+    def told_to(self, asked, blind):
+        """All that's told, but what others read."""
+        rows = helper.ask(*asked)
+        return [rows[k] for k in range(len(asked)) if asked[k][0] != 17 or asked[k][1] == blind], rows
+
+    def test_seen_only_by_who_may(self):
+        others_saw = 0
+        for seed in range(500, 560):
+            source = Source(seed, 0.75)
+            asked, wanted = source.line(230)
+            for blind in (0, 1, 2, 15):
+                reads = [helper.read(who, k) for who in (blind, 3, 1) for k in (0, 1, 2, 3, 4, 5, 31)]
+                one, all_one = self.told_to(asked + reads, blind)
+                two, all_two = self.told_to(self.other_values(asked, blind, source.draw) + reads, blind)
+                self.assertEqual(one, two, (seed, blind))
+                others_saw += all_one != all_two
+        # That the other values were seen by those who may tells that there was something to be kept from sight.
+        self.assertGreater(others_saw, 100)
+
+    def test_results_of_what_is_hidden_are_seen_by_who_may(self):
+        twice = helper.define(0, 7, [0, 9], (0, 18), 1, 3, helper.plus(helper.var(0), helper.var(0)))
+        for v in range(10):
+            asked = [twice, helper.put(3, 5, (0, 9), v, 0b1010), helper.run(1, 7, 6, 5)]
+            given = helper.ask(*asked, helper.read(1, 6), helper.read(3, 6), helper.read(0, 6), helper.run(0, 7, 8, 6),
+                               helper.read(0, 8))
+            self.assertEqual(given[3:], [[0, 2 * v], [0, 2 * v], [-13], [-13], [0, 0]])
 
 
 if __name__ == "__main__":

@@ -20,12 +20,15 @@ class Node:
     Places count the arguments first, then the expressions in the order in which they end.
     number: the value of a NUMBER, the place that a VARIABLE stands for, the program of a CALL.
     parts: the places of its parts.
+    onward, onward_if_zero: the place that's run next, by whether its value is 0.
     """
 
-    def __init__(self, kind, number, parts):
+    def __init__(self, kind, number, parts, onward):
         self.kind = kind
         self.number = number
         self.parts = parts
+        self.onward = onward
+        self.onward_if_zero = onward
 
 
 class Head:
@@ -99,11 +102,23 @@ def begin_expression(reading, head):
     return True
 
 
+def lead_past_the_other(reading, place, parts):
+    """Makes the parts of the CHOICE at this place lead on so that only the one that's taken is run."""
+    condition = reading.nodes[parts[0] - reading.arguments]
+    taken = reading.nodes[parts[1] - reading.arguments]
+    # Behind where the one for other values than 0 ends, the one for 0 begins.
+    condition.onward_if_zero = parts[1] + 1
+    taken.onward = place
+    taken.onward_if_zero = place
+
+
 def end_expression(reading):
     """Ends the innermost expression that has begun, and makes it a part of the one around it."""
     ended = reading.begun.pop()
     place = reading.arguments + len(reading.nodes)
-    reading.nodes.append(Node(ended.head.kind, ended.head.number, ended.parts))
+    reading.nodes.append(Node(ended.head.kind, ended.head.number, ended.parts, place + 1))
+    if ended.head.kind == CHOICE:
+        lead_past_the_other(reading, place, ended.parts)
     if ended.head.kind == LET:
         reading.sight.pop()
     if len(reading.begun) > 0:

@@ -1,8 +1,14 @@
-"""The house: which programs are there, whose they are, their versions, and the log."""
+"""The house: which programs are there, whose they are, their versions, the log, and the cells."""
 
 from wordhold.expressions import CALL
 from wordhold.expressions import read_body
+from wordhold.terms import CELLS
+from wordhold.terms import EVERYBODY
 from wordhold.terms import MOST_ENTRIES
+
+FROM_NOBODY = 0
+PUT_BY = 1
+RUN_BY = 2
 
 
 class Version:
@@ -22,12 +28,36 @@ class Program:
         self.versions = []
 
 
+class Cell:
+    """A value, the (from, to) that it lies within, who may see it as bits, and how it came.
+
+    origin: FROM_NOBODY alone; or PUT_BY, who; or RUN_BY, who, which program, which version, over which cells.
+    """
+
+    def __init__(self, value, bound, mask, origin):
+        self.value = value
+        self.bound = bound
+        self.mask = mask
+        self.origin = origin
+
+
+def new_cell():
+    """A cell as it is at the beginning."""
+    return Cell(0, (0, 0), EVERYBODY, [FROM_NOBODY])
+
+
+def new_cells():
+    """All cells as they are at the beginning."""
+    return [new_cell() for k in range(CELLS)]
+
+
 class House:
-    """All that one line's calls are asked of."""
+    """All that one line's calls are asked of. An entry of the log is what was done, by whom, to which program."""
 
     def __init__(self):
         self.programs = {}
         self.entries = []
+        self.cells = new_cells()
 
 
 def log_is_full(house):

@@ -4,7 +4,18 @@ from wordhold.asking import infer
 from wordhold.asking import tell_body
 from wordhold.asking import tell_callers
 from wordhold.asking import tell_calls
+from wordhold.asking import tell_entry
+from wordhold.asking import tell_many
+from wordhold.asking import tell_result
+from wordhold.asking import tell_versions
 from wordhold.asking import tell_word
+from wordhold.cells import clear_cell
+from wordhold.cells import narrow_cell
+from wordhold.cells import put_cell
+from wordhold.cells import read_cell
+from wordhold.cells import run_over
+from wordhold.cells import tell_how
+from wordhold.cells import tell_seen
 from wordhold.facts import Fact
 from wordhold.facts import Word
 from wordhold.house import House
@@ -27,10 +38,20 @@ WORD = 7
 BODY = 8
 CALLS = 9
 CALLERS = 10
+VERSIONS = 11
+EVALUATION = 12
+PUT = 13
+RUN = 14
+NARROW = 15
+CLEAR = 16
+READ = 17
+SEEN = 18
+HOW = 19
+LOG = 20
 
 # Of each call, by its number: how many whole numbers it has, and how many rows behind them.
-WHOLE_NUMBERS = (0, 6, 6, 2, 2, 3, 0, 1, 1, 1, 1)
-ROWS = (0, 2, 2, 0, 0, 0, 2, 0, 0, 0, 0)
+WHOLE_NUMBERS = (0, 6, 6, 2, 2, 3, 0, 1, 1, 1, 1, 1, 1, 6, 3, 3, 2, 2, 1, 1, 1, 0)
+ROWS = (0, 2, 2, 0, 0, 0, 2, 0, 0, 0, 0, 0, 1, 0, 1, 0, 0, 0, 0, 0, 0, 0)
 
 
 class Call:
@@ -85,23 +106,52 @@ def answer_of_telling(house, call):
 
 
 def answer_of_asking(house, call):
-    """What an infer to callers answers."""
+    """What an infer to an evaluation answers."""
     if call.kind == INFER:
         return infer(house, bounds_of(call.rows[0]), call.rows[1])
+    f = call.numbers[0]
     if call.kind == WORD:
-        return tell_word(house, call.numbers[0])
+        return tell_word(house, f)
     if call.kind == BODY:
-        return tell_body(house, call.numbers[0])
+        return tell_body(house, f)
     if call.kind == CALLS:
-        return tell_calls(house, call.numbers[0])
-    return tell_callers(house, call.numbers[0])
+        return tell_calls(house, f)
+    if call.kind == CALLERS:
+        return tell_callers(house, f)
+    if call.kind == VERSIONS:
+        return tell_versions(house, f)
+    return tell_result(house, f, call.rows[0])
+
+
+def answer_of_cells(house, call):
+    """What a put to how answers."""
+    numbers = call.numbers
+    if call.kind == PUT:
+        return put_cell(house, numbers[0], numbers[1], (numbers[2], numbers[3]), numbers[4], numbers[5])
+    if call.kind == RUN:
+        return run_over(house, numbers[0], numbers[1], numbers[2], call.rows[0])
+    if call.kind == NARROW:
+        return narrow_cell(house, numbers[0], numbers[1], numbers[2])
+    if call.kind == CLEAR:
+        return clear_cell(house, numbers[0], numbers[1])
+    if call.kind == READ:
+        return read_cell(house, numbers[0], numbers[1])
+    if call.kind == SEEN:
+        return tell_seen(house, numbers[0])
+    return tell_how(house, numbers[0])
 
 
 def answer_of(house, call):
     """What a call answers: a refusal alone, or all the numbers told for it."""
     if call.kind <= GIVE:
         return answer_of_telling(house, call)
-    return answer_of_asking(house, call)
+    if call.kind <= EVALUATION:
+        return answer_of_asking(house, call)
+    if call.kind <= HOW:
+        return answer_of_cells(house, call)
+    if call.kind == LOG:
+        return tell_entry(house, call.numbers[0])
+    return tell_many(house)
 
 
 def answers(calls):

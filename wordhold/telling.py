@@ -5,6 +5,7 @@ from wordhold.house import Program
 from wordhold.house import callers_of
 from wordhold.house import in_force
 from wordhold.house import log_is_full
+from wordhold.house import new_cells
 from wordhold.house import words_in_force
 from wordhold.terms import BREAKS_ANOTHER
 from wordhold.terms import FULL
@@ -29,6 +30,7 @@ def begin(house):
     """Empties the house."""
     house.programs = {}
     house.entries = []
+    house.cells = new_cells()
     return [0]
 
 
